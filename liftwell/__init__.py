@@ -1,0 +1,1 @@
+"""Liftwell: one lift in one shaft, and nobody forgotten."""
