@@ -12,8 +12,8 @@ class Lift:
         self.floor = 0
         self.apart = False
         self.way = UP
-        # Doors that have parted at a stop may part there a second time only if nobody
-        # else wants the lift; doors that have never parted are held like those of a new stop.
+        # Doors that have parted at a stop part there again only where no other floor is
+        # wanted; doors that have never parted count as those of a new stop.
         self.new_stop = True
 
     def act(self, wanted):
